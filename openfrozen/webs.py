@@ -1,0 +1,160 @@
+"""Webs of objects: their form, the paths through them, and what can be reached in them."""
+
+from openfrozen.errors import InvalidName, InvalidPath, InvalidScript, InvalidWeb
+from openfrozen.forms import MOST_OBJECTS, MOST_STATEMENTS, MOST_WORDS
+from openfrozen.forms import is_int, is_names, is_object, is_tuple, is_word
+
+
+def is_web(value):
+    """Return whether the value, any value, is a web."""
+    if not is_tuple(value, 2, 2) or not is_tuple(value[0], 1, MOST_OBJECTS):
+        return False
+    objects, names = value
+    many = len(objects)
+    return is_names(names, many) and all([is_object(item, many) for item in objects])
+
+
+def is_path(value):
+    """Return whether the value, any value, is a path."""
+    return is_tuple(value, 1, MOST_WORDS) and all([is_word(word) for word in value])
+
+
+def is_statement(value):
+    """Return whether the value, any value, is a statement."""
+    if is_tuple(value, 2, 2):
+        return value[0] == "read" and is_path(value[1])
+    if not is_tuple(value, 3, 3):
+        return False
+    action, second, third = value
+    if action == "set":
+        return is_path(second) and len(second) >= 2 and (is_int(third) or is_path(third))
+    return action == "name" and is_word(second) and is_path(third)
+
+
+def is_script(value):
+    """Return whether the value, any value, is a script."""
+    if not isinstance(value, list) or len(value) > MOST_STATEMENTS:
+        return False
+    return all([is_statement(statement) for statement in value])
+
+
+def check_web(web):
+    """Raise InvalidWeb for what is not a web."""
+    if not is_web(web):
+        raise InvalidWeb("not a web")
+
+
+def check_path(path):
+    """Raise InvalidPath for what is not a path."""
+    if not is_path(path):
+        raise InvalidPath("not a path")
+
+
+def check_script(script):
+    """Raise InvalidScript for what is not a script."""
+    if not is_script(script):
+        raise InvalidScript("not a script")
+
+
+def check_name(web, name):
+    """Raise InvalidName for what is not one of the names of the web."""
+    if entry(web[1], name) is None:
+        raise InvalidName("not a name of the web")
+
+
+def entry(pairs, word):
+    """Return what stands beside the word in the pairs, or None."""
+    for key, value in pairs:
+        if key == word:
+            return value
+    return None
+
+
+def follow(web, path):
+    """Return the integer or the reference that the path leads to, or None."""
+    objects, names = web
+    number = entry(names, path[0])
+    value = None if number is None else (number,)
+    for word in path[1:]:
+        if not isinstance(value, tuple):
+            return None
+        value = entry(objects[value[0]][1], word)
+    return value
+
+
+def object_at(web, path):
+    """Return the number of the object that the path leads to, or None."""
+    value = follow(web, path)
+    return value[0] if isinstance(value, tuple) else None
+
+
+def answer_at(web, path):
+    """Return the answer of a read of the path."""
+    value = follow(web, path)
+    if value is None:
+        return "none"
+    if not isinstance(value, tuple):
+        return value
+    kind, fields = web[0][value[0]]
+    return kind, tuple([pair[0] for pair in fields])
+
+
+def references(fields):
+    """Return the numbers to which the fields refer, in the order of the fields."""
+    return [pair[1][0] for pair in fields if isinstance(pair[1], tuple)]
+
+
+def met_from(objects, starts):
+    """Return the numbers of the starts and of all that they lead to, breadth-first, each once."""
+    order = []
+    for number in starts:
+        if number not in order:
+            order.append(number)
+    at = 0
+    while at < len(order):
+        for number in references(objects[order[at]][1]):
+            if number not in order:
+                order.append(number)
+        at += 1
+    return order
+
+
+def moved_fields(fields, places):
+    """Return the fields with each reference led to the new number of its object."""
+    return tuple([(word, (places[value[0]],) if isinstance(value, tuple) else value) for word, value in fields])
+
+
+def renumbered(web, order):
+    """Return the web of the objects in the order, which take its places as their numbers."""
+    objects, names = web
+    places = {number: at for at, number in enumerate(order)}
+    kept = [(objects[number][0], moved_fields(objects[number][1], places)) for number in order]
+    return tuple(kept), tuple([(word, places[number]) for word, number in names])
+
+
+def look(web, path):
+    """Return the answer of a read of the path: an integer, a kind with fields, or "none"."""
+    check_web(web)
+    check_path(path)
+    return answer_at(web, path)
+
+
+def place(web, path):
+    """Return the number of the object that the path leads to, or None."""
+    check_web(web)
+    check_path(path)
+    return object_at(web, path)
+
+
+def reachable(web, name):
+    """Return the ascending list of the numbers of the objects reachable from the name."""
+    check_web(web)
+    check_name(web, name)
+    return sorted(met_from(web[0], [entry(web[1], name)]))
+
+
+def trimmed(web):
+    """Return the web of the objects that are reachable from its names, numbered anew."""
+    check_web(web)
+    objects, names = web
+    return renumbered(web, met_from(objects, [pair[1] for pair in names]))
