@@ -16,11 +16,21 @@ def is_int(value):
     return isinstance(value, int) and not isinstance(value, bool) and LEAST_INT <= value <= MOST_INT
 
 
+def other_int(value):
+    """Return an integer that is not the value."""
+    return 1 if value == 0 else 0
+
+
 def is_word(value):
     """Return whether the value is a string of 1 to 8 letters from a to z."""
     if not isinstance(value, str) or not 1 <= len(value) <= MOST_LETTERS:
         return False
     return all(["a" <= sign <= "z" for sign in value])
+
+
+def words_of(pairs):
+    """Return the list of the words of the pairs."""
+    return [pair[0] for pair in pairs]
 
 
 def is_tuple(value, least, most):
@@ -44,7 +54,7 @@ def is_table(value, least, most):
         return False
     if not all([is_tuple(pair, 2, 2) and is_word(pair[0]) for pair in value]):
         return False
-    words = [pair[0] for pair in value]
+    words = words_of(value)
     return words == sorted(set(words))
 
 

@@ -2,7 +2,7 @@
 
 from openfrozen.errors import InvalidName, InvalidPath, InvalidScript, InvalidWeb
 from openfrozen.forms import MOST_OBJECTS, MOST_STATEMENTS, MOST_WORDS
-from openfrozen.forms import is_int, is_names, is_object, is_tuple, is_word
+from openfrozen.forms import is_int, is_names, is_object, is_tuple, is_word, words_of
 
 
 def is_web(value):
@@ -96,27 +96,50 @@ def answer_at(web, path):
     if not isinstance(value, tuple):
         return value
     kind, fields = web[0][value[0]]
-    return kind, tuple([pair[0] for pair in fields])
+    return kind, tuple(words_of(fields))
+
+
+def can_change(item):
+    """Return whether the object is changeable."""
+    kind, fields = item
+    return kind == "open" and len(fields) > 0
 
 
 def references(fields):
-    """Return the numbers to which the fields refer, in the order of the fields."""
-    return [pair[1][0] for pair in fields if isinstance(pair[1], tuple)]
+    """Return the words of the fields that are references, each with the number, in the order of the fields."""
+    return [(word, value[0]) for word, value in fields if isinstance(value, tuple)]
 
 
-def met_from(objects, starts):
-    """Return the numbers of the starts and of all that they lead to, breadth-first, each once."""
-    order = []
-    for number in starts:
-        if number not in order:
-            order.append(number)
+def first_paths(starts, steps):
+    """Return a dict of all that the starts lead to, in the order in which it is met, breadth-first.
+
+    Each key has the path by which it is met first, a shortest one. The starts, and what steps returns for a key, are
+    lists of a word and the key to which it leads.
+    """
+    paths = {}
+    for word, key in starts:
+        paths.setdefault(key, (word,))
+    order = list(paths)
     at = 0
     while at < len(order):
-        for number in references(objects[order[at]][1]):
-            if number not in order:
-                order.append(number)
+        here = order[at]
+        for word, key in steps(here):
+            if key not in paths:
+                paths[key] = paths[here] + (word,)
+                order.append(key)
         at += 1
-    return order
+    return paths
+
+
+def ways(objects, names):
+    """Return a dict of the objects that the names lead to, as they are met, with a shortest path to each."""
+    return first_paths(names, lambda number: references(objects[number][1]))
+
+
+def ways_from(web, name):
+    """Return a dict of the objects that are reachable from the name, with a shortest path to each."""
+    objects, names = web
+    return ways(objects, [(name, entry(names, name))])
 
 
 def moved_fields(fields, places):
@@ -130,6 +153,12 @@ def renumbered(web, order):
     places = {number: at for at, number in enumerate(order)}
     kept = [(objects[number][0], moved_fields(objects[number][1], places)) for number in order]
     return tuple(kept), tuple([(word, places[number]) for word, number in names])
+
+
+def numbered_anew(web):
+    """Return the web of the objects that its names lead to, in the order in which they are met."""
+    objects, names = web
+    return renumbered(web, list(ways(objects, names)))
 
 
 def look(web, path):
@@ -150,11 +179,10 @@ def reachable(web, name):
     """Return the ascending list of the numbers of the objects reachable from the name."""
     check_web(web)
     check_name(web, name)
-    return sorted(met_from(web[0], [entry(web[1], name)]))
+    return sorted(ways_from(web, name))
 
 
 def trimmed(web):
     """Return the web of the objects that are reachable from its names, numbered anew."""
     check_web(web)
-    objects, names = web
-    return renumbered(web, met_from(objects, [pair[1] for pair in names]))
+    return numbered_anew(web)

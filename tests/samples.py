@@ -1,5 +1,6 @@
 """Webs, values and a plain model of the document's words that several tests use."""
 
+import itertools
 import random
 
 # The web of the document's examples.
@@ -32,6 +33,14 @@ JUNK = [
     None, True, False, 0, 1, -1, 10 ** 30, "", "A", "aB", "a b", "a\n", "\t", "abcdefghi", "~", "a-b", "a1",
     (), ((),), ((), ()), (None,), (1,), ("",), ("A",), (("a",),), [None], ["a"], [()], [[]], {}, {"a": 0},
     {1: ("a",)}, DEEP, (DEEP,), (DEEP, DEEP),
+]
+
+NO_WEBS = JUNK + [list(WEB), (list(WEB[0]), WEB[1]), (WEB[0], ()), (WEB[0], (("a", 3),)), (WEB[0], (("a", True),))]
+# No names of WEB.
+NO_NAMES = JUNK + ["d", "aa", "x", ("a",), ["a"], "a "]
+NO_SCRIPTS = [value for value in JUNK if value != []] + [
+    (), (("read", ("a",)),), ("read", ("a",)), [("read", "a")], [("set", ("a",), 1)], [["read", ("a",)]],
+    [("read", ("a",))] * 61, [("set", ("a", "x"), True)], [("name", "A", ("a",))],
 ]
 
 
@@ -145,3 +154,209 @@ def random_cases(many):
     chance = random.Random(5)
     for _ in range(many):
         yield random_web(chance), [random_statement(chance) for _ in range(chance.randint(0, 60))]
+
+
+def row(many, first="frozen", last=None, kind="frozen"):
+    """Return objects, each of which leads to the next one by n: the last one to the first, or it holds the last."""
+    objects = [(kind, (("n", (at + 1,)),)) for at in range(many)]
+    objects[0] = (first, objects[0][1])
+    objects[-1] = (objects[-1][0], (("n", (0,) if last is None else last),))
+    return tuple(objects)
+
+
+def changeable(item):
+    return item[0] == "open" and item[1] != ()
+
+
+def met(objects, numbers):
+    """Return the set of the numbers and of all that they lead to."""
+    found = set(numbers)
+    while True:
+        more = {value[0] for number in found for _, value in objects[number][1] if isinstance(value, tuple)} - found
+        if not more:
+            return found
+        found |= more
+
+
+def met_by(web, word):
+    return met(web[0], [dict(web[1])[word]])
+
+
+def met_by_all(web):
+    return met(web[0], dict(web[1]).values())
+
+
+def one_path_pairs(one, two):
+    """Return the set of the pairs of objects to which one path leads in both webs."""
+    waiting = [(number, dict(two[1])[word]) for word, number in one[1]]
+    found = set()
+    while waiting:
+        pair = waiting.pop()
+        if pair not in found:
+            found.add(pair)
+            others = dict(two[0][pair[1]][1])
+            waiting += [(value[0], others[word][0]) for word, value in one[0][pair[0]][1]
+                        if isinstance(value, tuple) and isinstance(others.get(word), tuple)]
+    return found
+
+
+def is_plain_match(one, two, value):
+    """Return whether the list of pairs is a match, word by word as point 7 has it."""
+    if value != sorted(value) or len(value) != len(set(value)):
+        return False
+    if not all(first in met_by_all(one) and second in met_by_all(two) for first, second in value):
+        return False
+    if not all((number, dict(two[1])[word]) in value for word, number in one[1]):
+        return False
+    if not all(pair_fits(one[0][first], two[0][second], value) for first, second in value):
+        return False
+    firsts, seconds = [first for first, _ in value], [second for _, second in value]
+    return (all(firsts.count(number) == 1 for number in met_by_all(one) if changeable(one[0][number]))
+            and all(seconds.count(number) == 1 for number in met_by_all(two) if changeable(two[0][number])))
+
+
+def pair_fits(first, second, pairs):
+    if first[0] != second[0] or [word for word, _ in first[1]] != [word for word, _ in second[1]]:
+        return False
+    for (_, value), (_, other) in zip(first[1], second[1]):
+        if isinstance(value, tuple) and isinstance(other, tuple):
+            if (value[0], other[0]) not in pairs:
+                return False
+        elif value != other:
+            return False
+    return True
+
+
+def unlike_pairs(web):
+    """Return the set of the pairs of objects that are not alike, found as point 12 tells: by what paths lead to."""
+    objects = web[0]
+    numbers = range(len(objects))
+    everything = [(first, second) for first in numbers for second in numbers]
+    found = {pair for pair in everything if pair[0] != pair[1] and at_once_unlike(objects, pair)}
+    while True:
+        more = {pair for pair in everything if pair not in found and leads_into(objects, pair, found)}
+        if not more:
+            return found
+        found |= more
+
+
+def at_once_unlike(objects, pair):
+    first, second = objects[pair[0]], objects[pair[1]]
+    if changeable(first) or changeable(second):
+        return True
+    return plain(first) != plain(second)
+
+
+def plain(item):
+    """Return what reads of the object and its fields tell, but for what its references lead to."""
+    return item[0], [(word, "object" if isinstance(value, tuple) else value) for word, value in item[1]]
+
+
+def same_reads(one, two):
+    """Return whether every single read has the same answer in both webs."""
+    return all(plain(one[0][first]) == plain(two[0][second]) for first, second in one_path_pairs(one, two))
+
+
+def leads_into(objects, pair, found):
+    if pair[0] == pair[1]:
+        return False
+    steps = zip(objects[pair[0]][1], objects[pair[1]][1])
+    return any((value[0], other[0]) in found for (_, value), (_, other) in steps if isinstance(value, tuple))
+
+
+def least_size(web):
+    """Return how many objects the web has that are not alike, of those that its names reach."""
+    unlike = unlike_pairs(web)
+    kept = []
+    for number in sorted(met_by_all(web)):
+        if all((number, other) in unlike for other in kept):
+            kept.append(number)
+    return len(kept)
+
+
+def pure_numbers(web):
+    return [number for number in range(len(web[0]))
+            if not any(changeable(web[0][other]) for other in met(web[0], [number]))]
+
+
+def dense_web(chance, many=None, names="abc"):
+    """Return a web with so few kinds of objects that many of them are alike."""
+    many = many or chance.randint(1, 8)
+    words = chance.choice(["n", "n", "lr"])
+    still = chance.choice([0.3, 0.6, 0.9, 1])
+    objects = []
+    for _ in range(many):
+        kind = "frozen" if chance.random() < still else "open"
+        fields = tuple([(word, chance.choice([0, 1, (chance.randrange(many),), (chance.randrange(many),)]))
+                        for word in words])
+        objects.append((kind, fields if chance.random() < 0.9 else ()))
+    return tuple(objects), tuple([(word, chance.randrange(many)) for word in names])
+
+
+def shuffled(chance, web):
+    """Return the web with other numbers for its objects."""
+    order = list(range(len(web[0])))
+    chance.shuffle(order)
+    return numbered(web, order)
+
+
+def numbered(web, order):
+    """Return the web in which the object of each number of the order has the place of it as its number."""
+    places = {number: at for at, number in enumerate(order)}
+    objects = []
+    for number in order:
+        kind, fields = web[0][number]
+        objects.append((kind, tuple([(word, (places[value[0]],) if isinstance(value, tuple) else value)
+                                     for word, value in fields])))
+    return tuple(objects), tuple([(word, places[number]) for word, number in web[1]])
+
+
+def split(chance, web, twins):
+    """Return the web with twins of some objects, the references divided among them, and with other numbers."""
+    sources = list(range(len(web[0]))) + list(twins)
+    places = {number: [at for at, source in enumerate(sources) if source == number] for number in sources}
+    objects = []
+    for source in sources:
+        kind, fields = web[0][source]
+        objects.append((kind, tuple([(word, (chance.choice(places[value[0]]),) if isinstance(value, tuple) else value)
+                                     for word, value in fields])))
+    names = tuple([(word, chance.choice(places[number])) for word, number in web[1]])
+    return shuffled(chance, (tuple(objects), names))
+
+
+def still_split(chance, web):
+    """Return the web with twins of objects that are not changeable; it looks the same."""
+    still = [number for number, item in enumerate(web[0]) if not changeable(item)]
+    room = min(6, 30 - len(web[0]))
+    twins = [chance.choice(still) for _ in range(chance.randint(1, room))] if still and room else []
+    return split(chance, web, twins)
+
+
+def tiny_webs(names):
+    """Return all webs of at most two objects with the names, at most the field n, and the integers 0 and 1 in it."""
+    found = []
+    for many in (1, 2):
+        values = [0, 1] + [(number,) for number in range(many)]
+        kinds = [(kind, fields) for kind in ("open", "frozen") for fields in [()] + [(("n", value),) for value in values]]
+        for objects in itertools.product(kinds, repeat=many):
+            for numbers in itertools.product(range(many), repeat=len(names)):
+                found.append((objects, tuple(zip(names, numbers))))
+    return found
+
+
+def all_paths(names, fields, most):
+    """Return all paths of at most so many words."""
+    return [(name,) + rest for many in range(most) for name in names
+            for rest in itertools.product(fields, repeat=many)]
+
+
+def all_answers(web, names):
+    """Return what the scripts of one or two statements answer in a tiny web that use these names only."""
+    paths = all_paths(names, "n", 5)
+    reads = [("read", path) for path in paths]
+    sets = [("set", path, value) for path in paths[len(names):] for value in [0, 1, 7] + paths]
+    answers = []
+    for first in [reads[0]] + sets:
+        model = Model(web)
+        answers.append([model.do(statement) for statement in [first] + reads])
+    return answers

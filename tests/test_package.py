@@ -15,9 +15,20 @@ INTERFACE = {
         "place": ["web", "path"], "reachable": ["web", "name"], "trimmed": ["web"],
     },
     "openfrozen.scripts": {"run": ["web", "script"]},
+    "openfrozen.least": {
+        "least": ["web"], "same": ["web", "other"], "match": ["web", "other"], "is_match": ["web", "other", "value"],
+        "difference": ["web", "other"],
+    },
+    "openfrozen.sharing": {
+        "shared": ["web", "name", "other"], "independent": ["web", "name", "other"], "witness": ["web", "name", "other"],
+        "separated": ["web", "name"],
+    },
+    "openfrozen.talks": {"taken_back": ["web", "script"], "heard": ["web", "name", "other"]},
 }
 # L6 and L7: statements and values that the subset leaves out, as far as their form alone tells.
 BARRED = (ast.AsyncFunctionDef, ast.AsyncFor, ast.AsyncWith, ast.Await, ast.Global, ast.TryStar, ast.Div)
+# L25: the methods of builtin values that the package may use.
+METHODS = "append clear copy count extend get index insert items join keys pop remove reverse setdefault update values"
 CALLED = ("len range enumerate zip min max sum abs sorted reversed int str bool list tuple dict set isinstance ord "
           "repr any all divmod super").split()
 
@@ -122,6 +133,38 @@ class Language(unittest.TestCase):
             used = [node.id for node in ast.walk(tree) if isinstance(node, ast.Name) and hasattr(builtins, node.id)]
             for name in used:
                 self.assertIn(name, CALLED + ["ValueError"], path)
+
+    def test_methods_that_are_called(self):
+        for path, tree in trees():
+            for node in ast.walk(tree):
+                if isinstance(node, ast.Call) and isinstance(node.func, ast.Attribute):
+                    name = node.func.attr
+                    self.assertTrue(name in METHODS.split() or path.stem == "errors" and name == "__init__", (path, name))
+
+    def test_sets_are_used_on_the_spot(self):
+        for path, tree in trees():
+            allowed = []
+            for node in ast.walk(tree):
+                if isinstance(node, ast.Call) and isinstance(node.func, ast.Name) and node.func.id in ("sorted", "len"):
+                    allowed += node.args
+                if isinstance(node, ast.Compare):
+                    allowed += [node.left] + node.comparators
+            for node in ast.walk(tree):
+                call = isinstance(node, ast.Call) and isinstance(node.func, ast.Name) and node.func.id == "set"
+                if call or isinstance(node, (ast.Set, ast.SetComp)):
+                    self.assertIn(node, allowed, (path, node.lineno))
+
+    def test_is_stands_beside_constants(self):
+        for path, tree in trees():
+            for node in ast.walk(tree):
+                if isinstance(node, ast.Compare) and isinstance(node.ops[0], (ast.Is, ast.IsNot)):
+                    self.assertIsInstance(node.comparators[0], ast.Constant, (path, node.lineno))
+
+    def test_no_local_name_is_an_import(self):
+        for path, tree in trees():
+            imports = {alias.name for node in tree.body if isinstance(node, ast.ImportFrom) for alias in node.names}
+            for node in function_nodes(tree):
+                self.assertEqual(imports & set(bound_names(node)), set(), (path, node.name))
 
     def test_module_level(self):
         for path, tree in trees():

@@ -6,12 +6,7 @@ import unittest
 from openfrozen.errors import InvalidScript, InvalidWeb
 from openfrozen.scripts import run
 from openfrozen.webs import is_script, is_web
-from tests.samples import JUNK, RING, SELF, WEB, WEBS, Model, largest, random_cases
-
-NO_SCRIPTS = [value for value in JUNK if value != []] + [
-    (), (("read", ("a",)),), ("read", ("a",)), [("read", "a")], [("set", ("a",), 1)], [["read", ("a",)]],
-    [("read", ("a",))] * 61, [("set", ("a", "x"), True)], [("name", "A", ("a",))],
-]
+from tests.samples import JUNK, NO_SCRIPTS, RING, SELF, WEB, WEBS, Model, largest, random_cases
 
 
 def with_x(value):

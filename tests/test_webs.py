@@ -6,11 +6,10 @@ import unittest
 
 from openfrozen.errors import InvalidName, InvalidPath, InvalidWeb
 from openfrozen.webs import is_web, look, place, reachable, trimmed
-from tests.samples import JUNK, RING, SELF, SMALLEST, UNREACHED, WEB, WEBS, Model, Thing, largest, random_cases
+from tests.samples import JUNK, NO_NAMES, NO_WEBS, RING, SELF, SMALLEST, UNREACHED, WEB, WEBS
+from tests.samples import Model, Thing, largest, random_cases
 
 NO_PATHS = JUNK + ["a", ["a"], ("a",) * 65, ("a", 1), ("a", True), ("a", "X")]
-NO_NAMES = JUNK + ["d", "aa", "x", ("a",), ["a"], "a "]
-NO_WEBS = JUNK + [list(WEB), (list(WEB[0]), WEB[1]), (WEB[0], ()), (WEB[0], (("a", 3),)), (WEB[0], (("a", True),))]
 
 
 class Look(unittest.TestCase):
