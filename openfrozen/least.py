@@ -63,7 +63,8 @@ def next_pairs(web, other, pair):
 
 def common_paths(web, other):
     """Return a dict of the pairs to which one path leads in both webs, as they are met, each with a shortest path."""
-    return first_paths(name_pairs(web, other), lambda pair: next_pairs(web, other, pair))
+    pairs = [(first, second) for first in range(len(web[0])) for second in range(len(other[0]))]
+    return first_paths(name_pairs(web, other), {pair: next_pairs(web, other, pair) for pair in pairs})
 
 
 def shape(item):

@@ -9,18 +9,28 @@ def replaced(pairs, word, value):
     return tuple([(key, value if key == word else old) for key, old in pairs])
 
 
+def with_field(item, word, value):
+    """Return the object with the value in the field."""
+    kind, fields = item
+    return kind, replaced(fields, word, value)
+
+
+def meant(web, value):
+    """Return the integer, or the integer or reference that the path leads to, or None."""
+    return value if is_int(value) else follow(web, value)
+
+
 def set_field(web, path, value):
     """Return the answer of a set and the web after it."""
     objects, names = web
-    new = value if is_int(value) else follow(web, value)
+    new = meant(web, value)
     # A path leads nowhere just if its last object or the field of it is missing.
     if follow(web, path) is None or new is None:
         return "none", web
     number = object_at(web, path[:-1])
-    kind, fields = objects[number]
-    if kind == "frozen":
+    if objects[number][0] == "frozen":
         return "refused", web
-    changed = (kind, replaced(fields, path[-1], new))
+    changed = with_field(objects[number], path[-1], new)
     return "done", (objects[:number] + (changed,) + objects[number + 1:], names)
 
 

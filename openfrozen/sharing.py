@@ -1,9 +1,8 @@
 """Names that are independent of one another, and names that share objects that can be changed."""
 
-from openfrozen.errors import TooLarge
-from openfrozen.forms import MOST_OBJECTS, other_int
+from openfrozen.forms import other_int
 from openfrozen.least import merged
-from openfrozen.webs import can_change, check_name, check_web, entry, moved_fields, ways_from
+from openfrozen.webs import can_change, check_name, check_size, check_web, entry, moved_fields, ways_from
 
 
 def check_names(web, name, other):
@@ -85,6 +84,5 @@ def separated(web, name):
     check_web(web)
     check_name(web, name)
     result = merged(apart(web, name))
-    if len(result[0]) > MOST_OBJECTS:
-        raise TooLarge("the result would have too many objects")
+    check_size(result[0])
     return result

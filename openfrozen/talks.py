@@ -53,7 +53,7 @@ def heard(web, name, other):
     check_names(web, name, other)
     if name == other:
         raise InvalidName("a name does not hear itself")
-    chains = first_paths([(name, name)], lambda word: neighbours(web, word))
+    chains = first_paths([(name, name)], {word: neighbours(web, word) for word in words_of(web[1])})
     if other not in chains:
         return None
     return carried(web, chains[other])

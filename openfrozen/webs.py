@@ -1,6 +1,6 @@
 """Webs of objects: their form, the paths through them, and what can be reached in them."""
 
-from openfrozen.errors import InvalidName, InvalidPath, InvalidScript, InvalidWeb
+from openfrozen.errors import InvalidName, InvalidPath, InvalidScript, InvalidStatement, InvalidWeb, TooLarge
 from openfrozen.forms import MOST_OBJECTS, MOST_STATEMENTS, MOST_WORDS
 from openfrozen.forms import is_int, is_names, is_object, is_tuple, is_word, words_of
 
@@ -50,6 +50,12 @@ def check_path(path):
         raise InvalidPath("not a path")
 
 
+def check_statement(statement):
+    """Raise InvalidStatement for what is not a statement."""
+    if not is_statement(statement):
+        raise InvalidStatement("not a statement")
+
+
 def check_script(script):
     """Raise InvalidScript for what is not a script."""
     if not is_script(script):
@@ -60,6 +66,12 @@ def check_name(web, name):
     """Raise InvalidName for what is not one of the names of the web."""
     if entry(web[1], name) is None:
         raise InvalidName("not a name of the web")
+
+
+def check_size(objects):
+    """Raise TooLarge for more objects than a web can have."""
+    if len(objects) > MOST_OBJECTS:
+        raise TooLarge("the result would have too many objects")
 
 
 def entry(pairs, word):
@@ -113,9 +125,10 @@ def references(fields):
 def first_paths(starts, steps):
     """Return a dict of all that the starts lead to, in the order in which it is met, breadth-first.
 
-    Each key has the path by which it is met first, a shortest one. The starts, and what steps returns for a key, are
+    Each key has the path by which it is met first, a shortest one. The starts, and what steps holds for each key, are
     lists of a word and the key to which it leads.
     """
+    # The steps are a table and no function: what an operator of a class calls must not call what it is passed.
     paths = {}
     for word, key in starts:
         paths.setdefault(key, (word,))
@@ -123,7 +136,7 @@ def first_paths(starts, steps):
     at = 0
     while at < len(order):
         here = order[at]
-        for word, key in steps(here):
+        for word, key in steps[here]:
             if key not in paths:
                 paths[key] = paths[here] + (word,)
                 order.append(key)
@@ -133,7 +146,7 @@ def first_paths(starts, steps):
 
 def ways(objects, names):
     """Return a dict of the objects that the names lead to, as they are met, with a shortest path to each."""
-    return first_paths(names, lambda number: references(objects[number][1]))
+    return first_paths(names, [references(item[1]) for item in objects])
 
 
 def ways_from(web, name):

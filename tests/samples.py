@@ -38,6 +38,12 @@ JUNK = [
 NO_WEBS = JUNK + [list(WEB), (list(WEB[0]), WEB[1]), (WEB[0], ()), (WEB[0], (("a", 3),)), (WEB[0], (("a", True),))]
 # No names of WEB.
 NO_NAMES = JUNK + ["d", "aa", "x", ("a",), ["a"], "a "]
+NO_PATHS = JUNK + ["a", ["a"], ("a",) * 65, ("a", 1), ("a", True), ("a", "X")]
+NO_STATEMENTS = JUNK + [
+    [], ["read", ("a",)], ("read", "a"), ("read", ("a",), 1), ("set", ("a",), 5), ("set", ("a", "x"), True),
+    ("set", ("a", "x"), None), ("set", ("a", "x"), "b"), ("name", "A", ("a",)), ("name", ("a",), ("a",)),
+    [("read", ("a",))], ("undo",), ("set", ("a",) * 65, 1), ("set", ("a", "x"), 10 ** 9), {"read": ("a",)},
+]
 NO_SCRIPTS = [value for value in JUNK if value != []] + [
     (), (("read", ("a",)),), ("read", ("a",)), [("read", "a")], [("set", ("a",), 1)], [["read", ("a",)]],
     [("read", ("a",))] * 61, [("set", ("a", "x"), True)], [("name", "A", ("a",))],
@@ -162,6 +168,23 @@ def row(many, first="frozen", last=None, kind="frozen"):
     objects[0] = (first, objects[0][1])
     objects[-1] = (objects[-1][0], (("n", (0,) if last is None else last),))
     return tuple(objects)
+
+
+def names_of(web):
+    return [word for word, _ in web[1]]
+
+
+def only(web, names):
+    """Return the web with some of its names."""
+    return web[0], tuple([(word, number) for word, number in web[1] if word in names])
+
+
+def leading_paths(web, most):
+    """Return all paths of at most so many words that lead somewhere, shorter ones first, then in ascending order."""
+    words = {word for _, fields in web[0] for word, _ in fields}
+    model = Model(web)
+    found = [path for path in all_paths(names_of(web), words, most) if model.leads_to(path) is not None]
+    return sorted(found, key=lambda path: (len(path), path))
 
 
 def changeable(item):

@@ -1,4 +1,4 @@
-"""The examples of the document, word for word, for the points that have landed.
+r"""The examples of the document, word for word.
 
 Point 10:
 
@@ -38,6 +38,36 @@ Point 13:
 >>> web = ((("open", (("x", 1), ("y", (1,)))), ("frozen", (("z", 7),)), ("frozen", (("z", 7),))), (("a", 0), ("b", 0), ("c", 2)))
 >>> [shared(web, "a", "b"), independent(web, "a", "c"), separated(web, "a")]
 [[0], True, ((('open', (('x', 1), ('y', (2,)))), ('open', (('x', 1), ('y', (2,)))), ('frozen', (('z', 7),))), (('a', 0), ('b', 1), ('c', 2)))]
+
+Point 14:
+
+>>> from openfrozen.copies import deep_copied, version
+>>> web = ((("open", (("x", 1), ("y", (1,)))), ("frozen", (("z", 7),)), ("frozen", (("z", 7),))), (("a", 0), ("b", 0), ("c", 2)))
+>>> [deep_copied(web, "b", ("a",)), version(web, "a", ("c", "z"), 8)]
+[((('open', (('x', 1), ('y', (1,)))), ('frozen', (('z', 7),)), ('frozen', (('z', 7),)), ('open', (('x', 1), ('y', (1,))))), (('a', 0), ('b', 3), ('c', 2))), ((('open', (('x', 1), ('y', (1,)))), ('frozen', (('z', 7),)), ('frozen', (('z', 7),)), ('frozen', (('z', 8),))), (('a', 3), ('b', 0), ('c', 2)))]
+
+Point 15:
+
+>>> from openfrozen.texts import read, write
+>>> web = read("a=1 b=0\nfrozen\nopen x=-3 y=#0")
+>>> [web, write(web)]
+[((('frozen', ()), ('open', (('x', -3), ('y', (0,))))), (('a', 1), ('b', 0))), 'a=1 b=0\nfrozen\nopen x=-3 y=#0']
+
+Point 16:
+
+>>> from openfrozen.runner import Runner
+>>> runner = Runner.of_text("a=0 b=0\nopen x=1")
+>>> answer = runner.do(("set", ("a", "x"), 2))
+>>> [runner[("b", "x")], ("a", "y") in runner, len(runner), list(runner.paths(2))]
+[2, False, 1, [('a',), ('b',), ('a', 'x'), ('b', 'x')]]
+
+Point 17:
+
+>>> from openfrozen.runner import StillRunner
+>>> runner = StillRunner(((("open", (("x", 1),)),), (("a", 0),)))
+>>> answers = runner.run([("set", ("a", "x"), 2), ("set", ("a", "y"), 2)])
+>>> [answers, runner.refusals]
+[['refused', 'none'], 1]
 
 Point 18:
 

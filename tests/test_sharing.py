@@ -13,7 +13,7 @@ from openfrozen.sharing import independent, separated, shared, witness
 from openfrozen.webs import is_script, is_web, look, trimmed
 from tests.samples import NO_NAMES, NO_WEBS, RING, SELF, SMALLEST, UNREACHED, WEB, WEBS
 from tests.samples import all_answers, all_paths, changeable, dense_web, largest, least_size, met_by, met_by_all
-from tests.samples import numbered, pure_numbers, random_cases, random_path, row, still_split, tiny_webs
+from tests.samples import names_of, numbered, only, pure_numbers, random_cases, random_path, row, still_split, tiny_webs
 
 
 def some_webs(many):
@@ -26,17 +26,8 @@ def some_webs(many):
         yield dense_web(chance, names=chance.choice(["a", "ab", "abc", "abcdef"]))
 
 
-def names_of(web):
-    return [word for word, _ in web[1]]
-
-
 def plainly_shared(web, name, other):
     return sorted(number for number in met_by(web, name) & met_by(web, other) if changeable(web[0][number]))
-
-
-def only(web, names):
-    """Return the web with some of its names."""
-    return web[0], tuple([(word, number) for word, number in web[1] if word in names])
 
 
 class Shared(unittest.TestCase):

@@ -6,10 +6,8 @@ import unittest
 
 from openfrozen.errors import InvalidName, InvalidPath, InvalidWeb
 from openfrozen.webs import is_web, look, place, reachable, trimmed
-from tests.samples import JUNK, NO_NAMES, NO_WEBS, RING, SELF, SMALLEST, UNREACHED, WEB, WEBS
+from tests.samples import NO_NAMES, NO_PATHS, NO_WEBS, RING, SELF, SMALLEST, UNREACHED, WEB, WEBS
 from tests.samples import Model, Thing, largest, random_cases
-
-NO_PATHS = JUNK + ["a", ["a"], ("a",) * 65, ("a", 1), ("a", True), ("a", "X")]
 
 
 class Look(unittest.TestCase):
